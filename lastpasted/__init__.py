@@ -1,0 +1,1 @@
+"""Lastpasted: bills pasted over one another in a lost order, and photos of them."""

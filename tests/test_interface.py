@@ -1,0 +1,113 @@
+"""The names, parameters and classes that the document's interface lists."""
+
+import inspect
+import unittest
+
+from lastpasted import bills, cases, errors
+from tests.support import FIELDS, Case
+
+BILLS = {
+    "is_fence": "thing",
+    "names": "fence",
+    "bill_of": "fence name",
+    "over": "fence cell",
+    "lies_over": "fence name cell",
+    "shared": "fence one other",
+    "meet": "fence one other",
+    "meeting": "fence",
+    "pieces": "fence",
+    "gaps": "fence",
+    "piece_of": "fence cell",
+    "over_pieces": "fence",
+    "moved": "fence number",
+    "turned_about": "fence",
+    "cut_to": "fence first last",
+    "without": "fence some",
+    "with_bill": "fence bill",
+    "renamed": "fence pairs",
+}
+
+CASES = {
+    "is_case": "thing",
+    "is_history": "fence photos thing",
+    "there_at": "history photo",
+    "slot_of": "history name",
+    "seen_at": "fence history photo cell",
+    "seen_on": "fence history photo",
+    "fits": "case history",
+    "wrong_in": "case history",
+    "with_telling": "case photo cell seen",
+    "with_fact": "case fact",
+    "with_photo": "case",
+    "photographed": "fence history",
+}
+
+BASES = {
+    "NoName": LookupError,
+    "NoPhoto": LookupError,
+    "NoNumber": LookupError,
+    "NothingDone": LookupError,
+    "NoHistory": ValueError,
+    "NotOver": ValueError,
+    "Twice": ValueError,
+    "BadText": ValueError,
+    "BadLine": ValueError,
+}
+
+
+class Interface(Case):
+    def check_functions(self, module, table):
+        for name, words in table.items():
+            call = getattr(module, name)
+            self.assertTrue(inspect.isfunction(call), name)
+            self.assertEqual(call.__module__, module.__name__)
+            parameters = inspect.signature(call).parameters.values()
+            self.assertEqual([part.name for part in parameters], words.split(), name)
+            for part in parameters:
+                self.assertIs(part.kind, inspect.Parameter.POSITIONAL_OR_KEYWORD)
+                self.assertIs(part.default, inspect.Parameter.empty)
+
+    def test_bills(self):
+        self.check_functions(bills, BILLS)
+
+    def test_cases(self):
+        self.check_functions(cases, CASES)
+
+
+class Errors(Case):
+    def test_bases(self):
+        for name, base in BASES.items():
+            error_class = getattr(errors, name)
+            self.assertEqual(error_class.__bases__, (base,), name)
+            self.assertEqual(error_class.__module__, "lastpasted.errors")
+
+    def test_fields(self):
+        values = {"name": "abc", "photo": 3, "number": -(10 ** 40), "cell": 10 ** 40}
+        for name, fields in FIELDS.items():
+            error_class = getattr(errors, name)
+            given = [values[field] for field in fields]
+            by_position = error_class(*given)
+            by_names = error_class(**dict(zip(fields, given)))
+            for error in (by_position, by_names):
+                self.assertEqual(vars(error), dict(zip(fields, given)))
+
+    def test_wanted_values(self):
+        for name, fields in FIELDS.items():
+            error_class = getattr(errors, name)
+            if fields:
+                with self.assertRaises(TypeError):
+                    error_class()
+
+    def test_order_of_values(self):
+        error = errors.NotOver("a", 8)
+        self.assertEqual((error.name, error.cell), ("a", 8))
+
+    def test_caught_by_the_built_in_class(self):
+        for name, base in BASES.items():
+            error_class = getattr(errors, name)
+            with self.assertRaises(base):
+                raise error_class(*[1] * len(FIELDS[name]))
+
+
+if __name__ == "__main__":
+    unittest.main()
