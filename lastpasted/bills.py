@@ -31,9 +31,9 @@ def need_names(fence, asked):
 
 
 def bill_of(fence, name):
-    for bill in as_tuples(fence):
+    for bill in fence:
         if bill[0] == name:
-            return bill
+            return as_tuples(bill)
     raise NoName(name)
 
 

@@ -88,7 +88,8 @@ def slot_of(history, name):
 
 def last_over(fence, row, cell):
     """The last NAME of the row whose BILL lies over the CELL."""
-    lying = [name for name in row if lies_over(fence, name, cell)]
+    known = over(fence, cell)
+    lying = [name for name in row if name in known]
     return lying[-1] if lying else NONE_SEEN
 
 

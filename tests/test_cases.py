@@ -4,9 +4,8 @@ import itertools
 import unittest
 
 from lastpasted import cases
-from tests.support import Case
+from tests.support import FAR, Case, histories
 
-FAR = 10 ** 40
 TIMBER = (("a", 1, 6), ("b", 4, 9), ("c", 2, 5))
 ROW = ("b", 0, "c", "a", 1)
 TALE = (TIMBER, 2, ((0, 5, "b"), (1, 3, "a"), (1, 8, "b")), (("before", "b", "c"), ("not", 0, "a")))
@@ -217,16 +216,6 @@ class Photographing(Case):
     def test_great_cells(self):
         told = ((0, -FAR, "all"), (0, 0, "mid"), (0, 1, "all"))
         self.check_all_ways(cases.photographed, (WIDE, 1, told, ()), fence=WIDE, history=("all", "mid", 0))
-
-
-def histories(known, photos):
-    """All HISTORYs, by putting the PHOTOs into each row of the NAMEs."""
-    for row in itertools.permutations(known):
-        for slots in itertools.combinations_with_replacement(range(len(row) + 1), photos):
-            history = list(row)
-            for photo in reversed(range(photos)):
-                history.insert(slots[photo], photo)
-            yield tuple(history)
 
 
 def pasted(fence, history, photo):

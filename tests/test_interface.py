@@ -3,7 +3,7 @@
 import inspect
 import unittest
 
-from lastpasted import bills, cases, errors
+from lastpasted import bills, cases, errors, latest, pairs, sure
 from tests.support import FIELDS, Case
 
 BILLS = {
@@ -42,6 +42,44 @@ CASES = {
     "photographed": "fence history",
 }
 
+LATEST = {
+    "can_fit": "case",
+    "a_clash": "case",
+    "is_clash": "case thing",
+    "latest": "case",
+    "latest_history": "case",
+    "is_latest_history": "case thing",
+    "why_there": "case name photo",
+    "is_why_there": "case name photo thing",
+}
+
+SURE = {
+    "surely_there": "case photo",
+    "surely_not": "case photo",
+    "slots": "case name",
+    "surely_before": "case one other",
+    "sure_order": "case",
+    "answers": "case photo cell",
+    "sure_answer": "case photo cell",
+    "sure_look": "case photo",
+}
+
+PAIRS = {
+    "is_sight": "fence thing",
+    "is_sights": "fence thing",
+    "clash": "fence one other",
+    "clashes": "fence sights",
+    "free_sights": "fence sights",
+    "hold_together": "fence sights",
+    "order_for": "fence sights",
+    "is_order_for": "fence sights thing",
+    "surely_below": "fence sights",
+    "sure_layers": "fence sights",
+    "seen_there": "fence sights cell",
+    "seen_together": "fence sights asked",
+    "sure_cells": "fence sights",
+}
+
 BASES = {
     "NoName": LookupError,
     "NoPhoto": LookupError,
@@ -72,6 +110,15 @@ class Interface(Case):
 
     def test_cases(self):
         self.check_functions(cases, CASES)
+
+    def test_latest(self):
+        self.check_functions(latest, LATEST)
+
+    def test_sure(self):
+        self.check_functions(sure, SURE)
+
+    def test_pairs(self):
+        self.check_functions(pairs, PAIRS)
 
 
 class Errors(Case):

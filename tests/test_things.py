@@ -1,33 +1,17 @@
 """is_fence, is_case and is_history with things of all kinds."""
 
-import re
 import unittest
 
 from lastpasted.bills import is_fence
 from lastpasted.cases import is_case, is_history
-from tests.support import Case, as_lists
+from tests.support import FAR, LONE, Case, name, number, spoiled
 
-FAR = 10 ** 40
 PLANK = (("a", 1, 6), ("b", 4, 9), ("c", 2, 5), ("d", 12, 12))
 TIMBER = PLANK[:3]
 ROW = ("b", 0, "c", "a", 1)
 TOLD = ((0, 5, "b"), (1, 3, "a"), (1, 8, "b"), (1, 20, "-"))
 FACTS = (("before", "b", "c"), ("not", 0, "a"), ("there", 1, "a"), ("there", 1, "c"))
 TALE = (TIMBER, 2, TOLD, FACTS)
-LONE = (None, True, False, 0, 1, -1, FAR ** 3, -(FAR ** 3), "", "-", "a", "b", "ab", "A", "a1", "\u00e4", "a b", "a\n",
-        "abcdefgh", "abcdefghi", "before", "there", "not", "x" * 5000, (), [], ((),), [[]],
-        (((((((((((),),),),),),),),),),), ("a",), ["a"], (1, 2), ("a", 1), ("a", 1, 6), ("a", 1, 6, 7), ("a", "b", "c"),
-        (0, 5, "b"), (0, 1, 2))
-
-
-def number(thing):
-    return type(thing) is int
-
-
-def name(thing):
-    return type(thing) is str and re.fullmatch("[a-z]{1,8}", thing) is not None
-
-
 def triples(thing):
     return type(thing) is tuple and all(type(part) is tuple and len(part) == 3 for part in thing)
 
@@ -80,29 +64,6 @@ def history_said(fence, photos, thing):
     if sorted([part for part in thing if name(part)]) != sorted([bill[0] for bill in fence]):
         return False
     return photos < 100 and [part for part in thing if number(part)] == list(range(photos))
-
-
-def spoiled(value):
-    """The value with one change somewhere: left out, doubled, exchanged, made a list, another thing, and so on."""
-    yield from LONE
-    if number(value):
-        yield from (value + 1, value - 1, value + FAR ** 2, value - FAR ** 2, bool(value), str(value), (value,))
-    elif isinstance(value, str):
-        yield from (value + "a", value + "-", value + "1", value.upper(), value * 9, value[:-1], (value,), [value])
-    elif isinstance(value, tuple):
-        yield list(value)
-        yield as_lists(value)
-        yield value[::-1]
-        yield value + value
-        yield (value,)
-        for at, part in enumerate(value):
-            yield value[:at] + value[at + 1:]
-            yield value[:at] + (part,) + value[at:]
-            yield value[:at] + (value[at - 1],) + value[at:]
-            for change in spoiled(part):
-                yield value[:at] + (change,) + value[at + 1:]
-            for further in range(at + 1, len(value)):
-                yield value[:at] + (value[further],) + value[at + 1:further] + (part,) + value[further + 1:]
 
 
 class Fences(Case):
