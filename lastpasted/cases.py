@@ -42,13 +42,18 @@ def is_facts(fence, photos, thing):
     return is_ascending(thing)
 
 
-def is_case(thing):
+def is_case_but_for_told(thing):
+    """Whether thing is like a CASE, whatever stands in the place of its TELLINGS."""
     if not isinstance(thing, tuple) or len(thing) != 4:
         return False
-    fence, photos, told, facts = thing
+    fence, photos, _, facts = thing
     if not is_fence(fence) or not is_number(photos) or photos < 0:
         return False
-    return is_told(fence, photos, told) and is_facts(fence, photos, facts)
+    return is_facts(fence, photos, facts)
+
+
+def is_case(thing):
+    return is_case_but_for_told(thing) and is_told(thing[0], thing[1], thing[2])
 
 
 def photos_in(history):

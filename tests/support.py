@@ -93,6 +93,12 @@ def names_over(fence, cell):
     return [name for name, first, last in fence if first <= cell <= last]
 
 
+def top_said(fence, order, cell):
+    """The last one in the ORDER of those over the CELL, "-" if there is none."""
+    lying = names_over(fence, cell)
+    return ([name for name in order if name in lying] or ["-"])[-1]
+
+
 def small_cases(seed, many):
     """Small CASEs, always the same ones for the same seed."""
     chance = random.Random(seed)

@@ -1,83 +1,134 @@
 """The names, parameters and classes that the document's interface lists."""
 
+import importlib
 import inspect
 import unittest
 
-from lastpasted import bills, cases, errors, latest, pairs, sure
+from lastpasted import errors
 from tests.support import FIELDS, Case
 
-BILLS = {
-    "is_fence": "thing",
-    "names": "fence",
-    "bill_of": "fence name",
-    "over": "fence cell",
-    "lies_over": "fence name cell",
-    "shared": "fence one other",
-    "meet": "fence one other",
-    "meeting": "fence",
-    "pieces": "fence",
-    "gaps": "fence",
-    "piece_of": "fence cell",
-    "over_pieces": "fence",
-    "moved": "fence number",
-    "turned_about": "fence",
-    "cut_to": "fence first last",
-    "without": "fence some",
-    "with_bill": "fence bill",
-    "renamed": "fence pairs",
-}
-
-CASES = {
-    "is_case": "thing",
-    "is_history": "fence photos thing",
-    "there_at": "history photo",
-    "slot_of": "history name",
-    "seen_at": "fence history photo cell",
-    "seen_on": "fence history photo",
-    "fits": "case history",
-    "wrong_in": "case history",
-    "with_telling": "case photo cell seen",
-    "with_fact": "case fact",
-    "with_photo": "case",
-    "photographed": "fence history",
-}
-
-LATEST = {
-    "can_fit": "case",
-    "a_clash": "case",
-    "is_clash": "case thing",
-    "latest": "case",
-    "latest_history": "case",
-    "is_latest_history": "case thing",
-    "why_there": "case name photo",
-    "is_why_there": "case name photo thing",
-}
-
-SURE = {
-    "surely_there": "case photo",
-    "surely_not": "case photo",
-    "slots": "case name",
-    "surely_before": "case one other",
-    "sure_order": "case",
-    "answers": "case photo cell",
-    "sure_answer": "case photo cell",
-    "sure_look": "case photo",
-}
-
-PAIRS = {
-    "is_sight": "fence thing",
-    "is_sights": "fence thing",
-    "clash": "fence one other",
-    "clashes": "fence sights",
-    "free_sights": "fence sights",
-    "hold_together": "fence sights",
-    "order_for": "fence sights",
-    "is_order_for": "fence sights thing",
-    "surely_below": "fence sights",
-    "sure_layers": "fence sights",
-    "seen_there": "fence sights cell",
-    "seen_together": "fence sights asked",
-    "sure_cells": "fence sights",
+FUNCTIONS = {
+    "bills": {
+        "is_fence": "thing",
+        "names": "fence",
+        "bill_of": "fence name",
+        "over": "fence cell",
+        "lies_over": "fence name cell",
+        "shared": "fence one other",
+        "meet": "fence one other",
+        "meeting": "fence",
+        "pieces": "fence",
+        "gaps": "fence",
+        "piece_of": "fence cell",
+        "over_pieces": "fence",
+        "moved": "fence number",
+        "turned_about": "fence",
+        "cut_to": "fence first last",
+        "without": "fence some",
+        "with_bill": "fence bill",
+        "renamed": "fence pairs",
+    },
+    "cases": {
+        "is_case": "thing",
+        "is_history": "fence photos thing",
+        "there_at": "history photo",
+        "slot_of": "history name",
+        "seen_at": "fence history photo cell",
+        "seen_on": "fence history photo",
+        "fits": "case history",
+        "wrong_in": "case history",
+        "with_telling": "case photo cell seen",
+        "with_fact": "case fact",
+        "with_photo": "case",
+        "photographed": "fence history",
+    },
+    "latest": {
+        "can_fit": "case",
+        "a_clash": "case",
+        "is_clash": "case thing",
+        "latest": "case",
+        "latest_history": "case",
+        "is_latest_history": "case thing",
+        "why_there": "case name photo",
+        "is_why_there": "case name photo thing",
+    },
+    "sure": {
+        "surely_there": "case photo",
+        "surely_not": "case photo",
+        "slots": "case name",
+        "surely_before": "case one other",
+        "sure_order": "case",
+        "answers": "case photo cell",
+        "sure_answer": "case photo cell",
+        "sure_look": "case photo",
+    },
+    "pairs": {
+        "is_sight": "fence thing",
+        "is_sights": "fence thing",
+        "clash": "fence one other",
+        "clashes": "fence sights",
+        "free_sights": "fence sights",
+        "hold_together": "fence sights",
+        "order_for": "fence sights",
+        "is_order_for": "fence sights thing",
+        "surely_below": "fence sights",
+        "sure_layers": "fence sights",
+        "seen_there": "fence sights cell",
+        "seen_together": "fence sights asked",
+        "sure_cells": "fence sights",
+    },
+    "stacks": {
+        "is_full_order": "fence thing",
+        "stack_of": "fence order",
+        "same_stack": "fence one other",
+        "is_stack": "fence thing",
+        "order_of": "fence stack",
+        "least_order": "fence stack",
+        "how_many_orders": "fence stack",
+        "how_many_stacks": "fence",
+        "nth_stack": "fence number",
+        "number_of_stack": "fence stack",
+        "exchanges": "fence one other",
+        "on_top": "fence stack cell",
+        "torn_off": "fence stack gone",
+    },
+    "looks": {
+        "look_of": "fence order",
+        "is_look": "fence thing",
+        "first_wrong": "fence seen",
+        "look_order": "fence look",
+        "how_many_looks": "fence",
+        "nth_look": "fence number",
+        "number_of_look": "fence look",
+        "how_many_with": "fence wishes hidden",
+        "nth_with": "fence wishes hidden number",
+        "shown_with": "fence wishes hidden",
+        "how_many_show": "fence",
+    },
+    "lost": {
+        "is_loose_case": "thing",
+        "is_bounds": "case thing",
+        "least_fence": "case bounds",
+        "can_hold": "case bounds",
+        "surely_over": "case bounds name cell",
+        "may_lie": "case bounds name first last",
+        "reach": "case bounds name",
+    },
+    "anew": {
+        "top": "fence order cell",
+        "shows": "fence order wishes",
+        "shown": "fence order wishes",
+        "lacking": "fence order wishes",
+        "pasted_anew": "order row",
+        "anew": "fence order wishes",
+        "anew_row": "fence order wishes",
+        "is_anew_row": "fence order wishes thing",
+        "least_price": "fence order wishes prices",
+        "to_tear": "fence order wishes",
+        "anew_stack": "fence one other",
+        "stack_row": "fence one other",
+        "is_stack_row": "fence one other thing",
+    },
 }
 
 BASES = {
@@ -94,31 +145,21 @@ BASES = {
 
 
 class Interface(Case):
-    def check_functions(self, module, table):
-        for name, words in table.items():
-            call = getattr(module, name)
-            self.assertTrue(inspect.isfunction(call), name)
-            self.assertEqual(call.__module__, module.__name__)
-            parameters = inspect.signature(call).parameters.values()
-            self.assertEqual([part.name for part in parameters], words.split(), name)
-            for part in parameters:
-                self.assertIs(part.kind, inspect.Parameter.POSITIONAL_OR_KEYWORD)
-                self.assertIs(part.default, inspect.Parameter.empty)
+    def test_functions(self):
+        for file, table in FUNCTIONS.items():
+            module = importlib.import_module("lastpasted." + file)
+            for name, words in table.items():
+                with self.subTest(file=file, name=name):
+                    self.check_function(module, getattr(module, name), words.split())
 
-    def test_bills(self):
-        self.check_functions(bills, BILLS)
-
-    def test_cases(self):
-        self.check_functions(cases, CASES)
-
-    def test_latest(self):
-        self.check_functions(latest, LATEST)
-
-    def test_sure(self):
-        self.check_functions(sure, SURE)
-
-    def test_pairs(self):
-        self.check_functions(pairs, PAIRS)
+    def check_function(self, module, call, words):
+        self.assertTrue(inspect.isfunction(call))
+        self.assertEqual(call.__module__, module.__name__)
+        parameters = inspect.signature(call).parameters.values()
+        self.assertEqual([part.name for part in parameters], words)
+        for part in parameters:
+            self.assertIs(part.kind, inspect.Parameter.POSITIONAL_OR_KEYWORD)
+            self.assertIs(part.default, inspect.Parameter.empty)
 
 
 class Errors(Case):

@@ -5,7 +5,7 @@ import random
 import unittest
 
 from lastpasted import bills, pairs
-from tests.support import FAR, LONE, Case, names_over, number, small_fence, spoiled
+from tests.support import FAR, LONE, Case, names_over, number, small_fence, spoiled, top_said
 
 FENCE = (("a", 1, 6), ("b", 4, 9), ("c", 2, 5))
 SIGHTS = ((3, "c"), (5, "b"), (8, "b"))
@@ -157,11 +157,6 @@ class Seen(Case):
             self.check_all_ways(pairs.sure_cells, wanted, fence=fence, sights=sights)
 
 
-def top(fence, order, cell):
-    lying = names_over(fence, cell)
-    return ([name for name in order if name in lying] or ["-"])[-1]
-
-
 class AllSmallOrders(Case):
     def test_against_all_orders(self):
         chance = random.Random(3)
@@ -171,14 +166,14 @@ class AllSmallOrders(Case):
             every = [(cell, name) for cell in range(7) for name in names_over(fence, cell)]
             sights = tuple(sorted(chance.sample(every, min(len(every), chance.randint(0, 4)))))
             orders = list(itertools.permutations(bills.names(fence)))
-            kept = [order for order in orders if all(top(fence, order, cell) == name for cell, name in sights)]
+            kept = [order for order in orders if all(top_said(fence, order, cell) == name for cell, name in sights)]
             found[bool(kept)] += 1
             self.check_orders(fence, sights, orders, kept)
             self.check_clashes(fence, sights, orders)
             self.check_seen(fence, sights, kept)
             if every:
                 asked = [chance.choice(every)[0] for _ in range(chance.randint(0, 3))]
-                rows = sorted({tuple([top(fence, order, cell) for cell in asked]) for order in kept})
+                rows = sorted({tuple([top_said(fence, order, cell) for cell in asked]) for order in kept})
                 self.check(pairs.seen_together(fence, sights, tuple(asked)), rows)
         self.assertGreater(min(found), 100)
 
@@ -207,7 +202,7 @@ class AllSmallOrders(Case):
     def check_clashes(self, fence, sights, orders):
         barred = []
         for pair in itertools.combinations(sights, 2):
-            if not any(all(top(fence, order, cell) == name for cell, name in pair) for order in orders):
+            if not any(all(top_said(fence, order, cell) == name for cell, name in pair) for order in orders):
                 barred.append(pair)
             self.check(pairs.clash(fence, *pair), pair in barred)
         self.check(pairs.clashes(fence, sights), tuple(barred))
@@ -216,11 +211,11 @@ class AllSmallOrders(Case):
 
     def check_seen(self, fence, sights, kept):
         for cell in range(-1, 8):
-            seen = {top(fence, order, cell) for order in kept} - {"-"}
+            seen = {top_said(fence, order, cell) for order in kept} - {"-"}
             self.check(pairs.seen_there(fence, sights, cell), tuple(sorted(seen)))
         sure = []
         for piece in bills.pieces(fence):
-            seen = {top(fence, order, piece[0]) for order in kept}
+            seen = {top_said(fence, order, piece[0]) for order in kept}
             sure += [(piece, name) for name in seen if len(seen) == 1]
         self.check(pairs.sure_cells(fence, sights), tuple(sure))
 
