@@ -104,8 +104,9 @@ def nth_allowed(fence, allowed, number):
     state = ()
     left = number
     for place, moves in enumerate(paths):
-        # The NAMEs ascend: those behind the one that is looked for come later.
-        for name, after in moves[state].items():
+        # The NAMEs ascend, so the LOOKs with the first one here come first.
+        ways = moves[state]
+        for name, after in ways.items():
             if left < counts[place + 1][after]:
                 look.append(name)
                 state = after
