@@ -1,4 +1,6 @@
-"""What all files need to tell kinds of values apart and to copy them."""
+"""What several files need: kinds of values, copies, NAMEs put in a row, and ways counted from step to step."""
+
+from lastpasted.errors import NoNumber
 
 
 def is_number(thing):
@@ -40,9 +42,19 @@ def is_row(known, thing):
 
 
 def stands_in(members, thing):
-    """Whether thing is one of these triples of numbers and strings."""
-    # True == 1 for Python, so that a triple with a bool in it would pass for a member.
-    return is_triple(thing) and not any([isinstance(part, bool) for part in thing]) and thing in members
+    """Whether thing is one of these tuples of numbers and strings."""
+    # True == 1 for Python, so that a tuple with a bool in it would pass for a member.
+    if not isinstance(thing, tuple) or any([isinstance(part, bool) for part in thing]):
+        return False
+    return thing in members
+
+
+def subsets(members):
+    """All sets of these, each in their order; each one stands behind all those that lie in it."""
+    found = [()]
+    for member in members:
+        found = [*found, *[(*some, member) for some in found]]
+    return found
 
 
 def rising(known, below):
@@ -61,6 +73,30 @@ def rising(known, below):
     return list(placed)
 
 
+def whole_row(known, below):
+    """A row as rising gives it, if it has all of the NAMEs; else None."""
+    row = rising(known, below)
+    return tuple(row) if len(row) == len(known) else None
+
+
+def is_rising_row(known, below, thing):
+    """Whether thing is a row of all NAMEs, each behind all that pairs (lower, upper) have below it."""
+    return is_row(known, thing) and all([thing.index(lower) < thing.index(upper) for lower, upper in below])
+
+
+def ring_of(known, below):
+    """NAMEs of which each lies above the next one, the last one above the first one; [] if there are none."""
+    free = rising(known, below)
+    # Each one that is not free lies above another such one: going down from one to the next leads into a ring.
+    down = {upper: lower for lower, upper in below if lower not in free}
+    if not down:
+        return []
+    walk = [min(list(down.keys()))]
+    while down[walk[-1]] not in walk:
+        walk.append(down[walk[-1]])
+    return walk[walk.index(down[walk[-1]]):]
+
+
 def all_below(row, below):
     """The set of all pairs (lower, upper) that these pairs lead to, one through another; row is as rising gives it."""
     found = {}
@@ -71,3 +107,65 @@ def all_below(row, below):
                 found[name][lower] = True
                 found[name].update(found[lower])
     return tuple(sorted([(lower, name) for name in row for lower in found[name]]))
+
+
+def ways_up(known, below):
+    """The steps in which the NAMEs, ascending, come into a row behind all that pairs (lower, upper) have below them.
+
+    Each step has for each set of NAMEs that can stand in the row by then {next NAME: the set with it}.
+    """
+    lowers = {name: [lower for lower, upper in below if upper == name] for name in known}
+    paths = []
+    sets = [()]
+    for _ in known:
+        moves = {}
+        for placed in sets:
+            free = [name for name in known if name not in placed and all([low in placed for low in lowers[name]])]
+            moves[placed] = {name: tuple(sorted([*placed, name])) for name in free}
+        paths.append(moves)
+        sets = sorted({after for ways in list(moves.values()) for after in list(ways.values())})
+    return paths
+
+
+def how_many_from(paths, end):
+    """For each step, and for behind the last one, how many ways lead on from each state to the end.
+
+    Each step of the paths has for each state in which one can come to it {NAME taken: next state}; the first one is ().
+    """
+    counts = [{end: 1}]
+    for moves in reversed(paths):
+        behind = counts[-1]
+        counts.append({state: sum([behind[after] for after in list(ways.values())]) for state, ways in moves.items()})
+    return counts[::-1]
+
+
+def nth_way(paths, end, number):
+    """The NAMEs taken on the way with this number, ascending by comparison."""
+    counts = how_many_from(paths, end)
+    if not 0 <= number < counts[0][()]:
+        raise NoNumber(number)
+    row = []
+    state = ()
+    left = number
+    for place, moves in enumerate(paths):
+        # The NAMEs ascend, so the ways with the first one here come first.
+        ways = moves[state]
+        for name, after in ways.items():
+            if left < counts[place + 1][after]:
+                row.append(name)
+                state = after
+                break
+            left = left - counts[place + 1][after]
+    return tuple(row)
+
+
+def number_of_way(paths, end, row):
+    """The number of the way on which these NAMEs are taken."""
+    counts = how_many_from(paths, end)
+    number = 0
+    state = ()
+    for place, name in enumerate(row):
+        ways = paths[place][state]
+        number = number + sum([counts[place + 1][ways[other]] for other in ways if other < name])
+        state = ways[name]
+    return number

@@ -3,7 +3,7 @@
 from lastpasted.bills import names, need_names, over
 from lastpasted.cases import NONE_SEEN, fits, is_history, is_photo, need_photo, slot_of
 from lastpasted.errors import NoHistory
-from lastpasted.forms import as_tuples, is_number, is_pair, is_triple, rising, stands_in
+from lastpasted.forms import as_tuples, is_number, is_pair, is_triple, ring_of, rising, stands_in
 
 
 def said(known, name, photo):
@@ -76,16 +76,11 @@ def first_ring(case, known):
     """A ring; None if there is none."""
     fence, _, told, facts = case
     laid = [(lower, upper, reason) for reason in told + facts for lower, upper in laid_by(fence, reason, known)]
-    free = rising(names(fence), [(lower, upper) for lower, upper, _ in laid])
-    # Each BILL that is not free lies above another such one: going down from one to the next leads into a ring.
-    down = {upper: (lower, reason) for lower, upper, reason in laid if lower not in free}
-    if not down:
-        return None
-    walk = [min(list(down.keys()))]
-    while down[walk[-1]][0] not in walk:
-        walk.append(down[walk[-1]][0])
-    begin = walk.index(down[walk[-1]][0])
-    return tuple([(name, down[name][1]) for name in walk[begin:]])
+    row = ring_of(names(fence), [(lower, upper) for lower, upper, _ in laid])
+    reasons = {(lower, upper): reason for lower, upper, reason in laid}
+    # [*row[1:], *row[:1]] has for each of them the next one.
+    ring = tuple([(name, reasons[(lower, name)]) for name, lower in zip(row, [*row[1:], *row[:1]])])
+    return ring if ring != () else None
 
 
 def a_clash(case):

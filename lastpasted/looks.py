@@ -8,6 +8,7 @@ this one. LOOKs that come to the same state can go on in the same ways.
 from lastpasted.bills import names, need_names, over_pieces, pieces
 from lastpasted.cases import last_over
 from lastpasted.errors import NoNumber
+from lastpasted.forms import how_many_from, nth_way, number_of_way
 from lastpasted.pairs import order_for
 
 
@@ -82,37 +83,12 @@ def ways_on(fence, allowed):
     return found
 
 
-def how_many_from(paths):
-    """For each PIECE, and for behind the last one, how many LOOKs go on from each state."""
-    counts = [{(): 1}]
-    for moves in reversed(paths):
-        behind = counts[-1]
-        counts.append({state: sum([behind[after] for after in list(ways.values())]) for state, ways in moves.items()})
-    return counts[::-1]
-
-
 def how_many_allowed(fence, allowed):
-    return how_many_from(ways_on(fence, allowed))[0][()]
+    return how_many_from(ways_on(fence, allowed), ())[0][()]
 
 
 def nth_allowed(fence, allowed, number):
-    paths = ways_on(fence, allowed)
-    counts = how_many_from(paths)
-    if not 0 <= number < counts[0][()]:
-        raise NoNumber(number)
-    look = []
-    state = ()
-    left = number
-    for place, moves in enumerate(paths):
-        # The NAMEs ascend, so the LOOKs with the first one here come first.
-        ways = moves[state]
-        for name, after in ways.items():
-            if left < counts[place + 1][after]:
-                look.append(name)
-                state = after
-                break
-            left = left - counts[place + 1][after]
-    return tuple(look)
+    return nth_way(ways_on(fence, allowed), (), number)
 
 
 def how_many_looks(fence):
@@ -124,15 +100,7 @@ def nth_look(fence, number):
 
 
 def number_of_look(fence, look):
-    paths = ways_on(fence, over_pieces(fence))
-    counts = how_many_from(paths)
-    number = 0
-    state = ()
-    for place, name in enumerate(look):
-        ways = paths[place][state]
-        number = number + sum([counts[place + 1][ways[other]] for other in ways if other < name])
-        state = ways[name]
-    return number
+    return number_of_way(ways_on(fence, over_pieces(fence)), (), look)
 
 
 def as_wished(fence, wishes, hidden):
@@ -159,7 +127,7 @@ def nth_with(fence, wishes, hidden, number):
 
 def shown_with(fence, wishes, hidden):
     paths = ways_on(fence, as_wished(fence, wishes, hidden))
-    counts = how_many_from(paths)
+    counts = how_many_from(paths, ())
     return tuple([
         tuple(sorted({name for ways in list(moves.values()) for name, after in ways.items() if behind[after] > 0}))
         for moves, behind in zip(paths, counts[1:])

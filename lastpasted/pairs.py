@@ -2,7 +2,7 @@
 
 from lastpasted.bills import lies_over, names, over, pieces
 from lastpasted.errors import NoHistory
-from lastpasted.forms import all_below, as_tuples, is_ascending, is_number, is_pair, is_row, rising
+from lastpasted.forms import all_below, as_tuples, is_ascending, is_number, is_pair, is_rising_row, whole_row
 
 
 def is_sight(fence, thing):
@@ -47,14 +47,11 @@ def seen_below(fence, sights):
 
 
 def order_for(fence, sights):
-    row = rising(names(fence), seen_below(fence, sights))
-    return tuple(row) if len(row) == len(fence) else None
+    return whole_row(names(fence), seen_below(fence, sights))
 
 
 def is_order_for(fence, sights, thing):
-    if not is_row(names(fence), thing):
-        return False
-    return all([thing.index(lower) < thing.index(upper) for lower, upper in seen_below(fence, sights)])
+    return is_rising_row(names(fence), seen_below(fence, sights), thing)
 
 
 def surely_below(fence, sights):

@@ -3,7 +3,7 @@
 from lastpasted.bills import meet, meeting, names, need_names, over
 from lastpasted.cases import NONE_SEEN
 from lastpasted.errors import NoNumber
-from lastpasted.forms import as_tuples, is_ascending, is_pair, is_row, rising
+from lastpasted.forms import as_tuples, how_many_from, is_ascending, is_pair, is_row, rising, ways_up
 
 
 def is_full_order(fence, thing):
@@ -42,17 +42,7 @@ def least_order(fence, stack):
 
 def how_many_orders(fence, stack):
     known = names(fence)
-    # How many rows each set of NAMEs can be put in, the sets growing by one NAME at a time.
-    ways = {(): 1}
-    for _ in known:
-        grown = {}
-        for placed, many in ways.items():
-            for name in known:
-                if name not in placed and all([lower in placed for lower, upper in stack if upper == name]):
-                    more = tuple(sorted([*placed, name]))
-                    grown[more] = grown.get(more, 0) + many
-        ways = grown
-    return ways[known]
+    return how_many_from(ways_up(known, stack), known)[0][()]
 
 
 def by_first_cell(fence):

@@ -5,7 +5,7 @@ import doctest
 import os
 import unittest
 
-from lastpasted import anew, bills, cases, errors, latest, looks, lost, pairs, stacks, sure
+from lastpasted import anew, bills, cases, column, errors, hands, latest, looks, lost, pairs, shown, stacks, sure
 from tests.support import FIELDS, Case
 
 HERE = os.path.dirname(os.path.abspath(__file__))
@@ -40,14 +40,14 @@ class Examples(Case):
 
     def test_examples(self):
         known = {}
-        for module in (errors, bills, cases, latest, sure, pairs, stacks, looks, lost, anew):
+        for module in (errors, bills, cases, latest, sure, pairs, stacks, looks, lost, anew, shown, column, hands):
             known.update(vars(module))
         ran = 0
         for line, wanted in examples():
             with self.subTest(line=line):
                 self.run_example(line, wanted, known)
             ran += 1
-        self.assertEqual(ran, 72)
+        self.assertEqual(ran, 94)
 
     def test_examples_are_the_document_s(self):
         if not os.path.exists(DOCUMENT):
