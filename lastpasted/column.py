@@ -105,10 +105,10 @@ def round_of(told, some, side):
 
 def a_round(size, column, sights):
     told = {}
-    for cell, name in sights:
-        told.setdefault(name, []).append((cell, over_round(size, column, cell)))
+    for cell, seen in sights:
+        told.setdefault(seen, []).append((cell, over_round(size, column, cell)))
     # The BILLs of a ROUND begin in the order in which they lie round the column: no two of them in the same CELL.
-    row = [name for _, name in sorted([(first, name) for name, first, _ in column if name in told])]
+    row = [name for _, name in sorted([(bill[1], bill[0]) for bill in column if bill[0] in told])]
     for some in subsets(row):
         if len(some) >= 3:
             found = round_of(told, some, 1) or round_of(told, some, -1)
@@ -178,7 +178,7 @@ def stacks_of_some(ways, apart, some):
 def how_many_round_stacks(size, column):
     met = meet_round(size, column)
     sets = subsets(names_round(column))
-    apart = {some: not any([one in some and other in some for one, other in met]) for some in sets}
+    apart = {row: not any([one in row and other in row for one, other in met]) for row in sets}
     ways = {(): 1}
     for some in sets[1:]:
         ways[some] = stacks_of_some(ways, apart, some)

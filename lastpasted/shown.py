@@ -30,7 +30,7 @@ def can_be_hidden(lying, those):
 
 def alone_somewhere(lying, left):
     """Those left that lie over a PIECE over which no other one left lies."""
-    found = [[name for name in here if name in left] for here in lying]
+    found = [[other for other in here if other in left] for here in lying]
     return [name for name in left if [name] in found]
 
 

@@ -5,7 +5,10 @@ import doctest
 import os
 import unittest
 
-from lastpasted import anew, bills, cases, column, errors, hands, latest, looks, lost, pairs, shown, stacks, sure
+from lastpasted import (
+    anew, bills, board, cases, column, desk, errors, hands, latest, looks, lost, pairs, shown, stacks, sure, texts,
+    wrong,
+)
 from tests.support import FIELDS, Case
 
 HERE = os.path.dirname(os.path.abspath(__file__))
@@ -40,14 +43,16 @@ class Examples(Case):
 
     def test_examples(self):
         known = {}
-        for module in (errors, bills, cases, latest, sure, pairs, stacks, looks, lost, anew, shown, column, hands):
+        for module in (errors, bills, cases, latest, sure, pairs, stacks, looks, lost, anew, shown, column, hands,
+                       wrong,
+                       board, texts, desk):
             known.update(vars(module))
         ran = 0
         for line, wanted in examples():
             with self.subTest(line=line):
                 self.run_example(line, wanted, known)
             ran += 1
-        self.assertEqual(ran, 94)
+        self.assertEqual(ran, 122)
 
     def test_examples_are_the_document_s(self):
         if not os.path.exists(DOCUMENT):

@@ -5,6 +5,7 @@ import inspect
 import unittest
 
 from lastpasted import errors
+from lastpasted.board import Board
 from tests.support import FIELDS, Case
 
 FUNCTIONS = {
@@ -175,6 +176,48 @@ FUNCTIONS = {
         "weave_answers": "fence hands sights cell",
         "seen_of": "fence hands sights place",
     },
+    "wrong": {
+        "left_out": "case gone",
+        "a_core": "case",
+        "is_core": "case thing",
+        "all_cores": "case",
+        "fewest_wrong": "case",
+        "least_wrong": "case",
+        "all_least_wrong": "case",
+        "surely_wrong": "case",
+        "suspects": "case",
+        "trusted": "case",
+    },
+    "texts": {
+        "fence_text": "fence",
+        "told_text": "told",
+        "facts_text": "facts",
+        "history_text": "history",
+        "stack_text": "stack",
+        "case_text": "case",
+        "fence_read": "text",
+        "told_read": "text",
+        "facts_read": "text",
+        "history_read": "text",
+        "stack_read": "text",
+        "case_read": "text",
+    },
+    "desk": {
+        "is_request": "thing",
+        "replies": "text",
+    },
+}
+
+BOARD = {
+    "case": "self",
+    "told_of": "self name",
+    "paste": "self name first last",
+    "snap": "self",
+    "tell": "self photo cell seen",
+    "know": "self fact",
+    "undo": "self",
+    "deeds": "self",
+    "twin": "self",
 }
 
 BASES = {
@@ -206,6 +249,18 @@ class Interface(Case):
         for part in parameters:
             self.assertIs(part.kind, inspect.Parameter.POSITIONAL_OR_KEYWORD)
             self.assertIs(part.default, inspect.Parameter.empty)
+
+
+class Boards(Case):
+    def test_methods(self):
+        self.assertEqual(Board.__module__, "lastpasted.board")
+        self.assertEqual(Board.__bases__, (object,))
+        for name, words in BOARD.items():
+            call = vars(Board)[name]
+            self.assertTrue(inspect.isfunction(call))
+            self.assertEqual(list(inspect.signature(call).parameters), words.split())
+        for name in ("__init__", "__len__", "__contains__", "__eq__"):
+            self.assertIn(name, vars(Board))
 
 
 class Errors(Case):
