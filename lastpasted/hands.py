@@ -71,7 +71,7 @@ def a_knot(fence, hands, sights):
         one, other = clashing[0]
         return (((one, other), one[1]),)
     # If no two SIGHTS clash, the fewest that lead down from one to another go one way along the FENCE.
-    stairs = all_stairs(fence, as_tuples(hands), as_tuples(sights))
+    stairs = all_stairs(fence, hands, sights)
     row = ring_of(names(fence), list(stairs.keys()))
     # [*row[1:], *row[:1]] has for each of them the next one.
     knot = tuple([stairs[(lower, upper)] for upper, lower in zip(row, [*row[1:], *row[:1]])])

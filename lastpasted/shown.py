@@ -37,7 +37,7 @@ def alone_somewhere(lying, left):
 def shown_row(lying, those):
     """Those in a row in which each one is seen, pasted in it over all others; some are left out if it can't be."""
     row = []
-    left = list(those)
+    left = those
     taken = alone_somewhere(lying, left)
     # Who is alone somewhere is seen there also below all others left, so it can be pasted ahead of them.
     while taken:

@@ -8,7 +8,7 @@ from lastpasted.latest import can_fit
 def telling_just(case, told):
     """The CASE with these TELLINGS in the place of its own."""
     fence, photos, _, facts = as_tuples(case)
-    return (fence, photos, tuple(told), facts)
+    return (fence, photos, told, facts)
 
 
 def need_facts(case):

@@ -12,6 +12,7 @@ SAW = ((0, "c"), (3, "a"), (4, "b"))
 BACK = ((1, "a"), (3, "b"), (5, "c"))
 WHOLE = (("a", 3, 2), ("b", 0, 5), ("c", 5, 5))
 FOUR = (("a", 0, 10), ("b", 10, 20), ("c", 20, 30), ("d", 30, 0))
+WIDE = (("a", 2, 0), ("b", 5, 3), ("c", 8, 6))
 FOUR_SAW = ((0, "d"), (10, "a"), (20, "b"), (30, "c"))
 
 
@@ -257,7 +258,8 @@ class Rounds(Case):
 
     def test_some_round(self):
         for size, bills, wanted in ((6, RING, True), (6, RING[:2], False), (FAR, FOUR, True), (6, (), False),
-                                    (FAR, FOUR[:3], False), (6, WHOLE, False), (1, (("a", 0, 0), ("b", 0, 0)), False)):
+                                    (FAR, FOUR[:3], False), (6, WHOLE, False), (9, WIDE, True),
+                                    (1, (("a", 0, 0), ("b", 0, 0)), False)):
             found = column.some_round(size, bills)
             self.check_all_ways(column.some_round, found, size=size, column=bills)
             self.assertEqual(found is not None, wanted)

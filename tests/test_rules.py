@@ -26,6 +26,8 @@ LIBRARY = {
                   "zip_longest"},
     "collections": {"defaultdict"},
 }
+ORDER = """__init__ errors forms bills cases latest sure pairs stacks looks lost anew shown column hands wrong board
+    texts desk""".split()
 NOWHERE = set("""register mro elements open input law version_info with_traceback add_note""".split())
 NO_NAMES = set("""attrgetter breakpoint builtins compile copyright credits delattr dir eval exec exit gc globals help
     id importlib license locals methodcaller os quit type vars sys __name__""".split())
@@ -132,6 +134,16 @@ class Imports(unittest.TestCase):
             for name in free:
                 del needs[name]
 
+    def test_each_file_needs_only_those_ahead_of_it(self):
+        ahead = []
+        trees_of = {name[:-3]: tree for name, _, tree in trees()}
+        self.assertEqual(sorted(ORDER), sorted(trees_of))
+        for name in ORDER:
+            for node in trees_of[name].body:
+                if isinstance(node, ast.ImportFrom) and node.module not in LIBRARY:
+                    self.assertIn(node.module.split(".")[1], ahead, name)
+            ahead.append(name)
+
     def test_what_is_imported_is_used(self):
         for name, _, tree in trees():
             read = {node.id for node in ast.walk(tree) if isinstance(node, ast.Name)}
@@ -199,12 +211,41 @@ class Statements(unittest.TestCase):
         return isinstance(holder, (ast.Compare, ast.Assign, ast.BinOp))
 
     def test_generator_expressions(self):
-        # A class with an __eq__ is to come (Board): from then on these take lists.
+        # Board has an __eq__: in such a package these take lists.
         for name, _, tree in trees():
             for node in ast.walk(tree):
                 if isinstance(node, ast.Call) and isinstance(node.func, ast.Name) and node.func.id in TAKES_LISTS:
                     for part in node.args:
                         self.assertNotIsInstance(part, ast.GeneratorExp, f"{name}:{node.lineno}")
+
+
+class Classes(unittest.TestCase):
+    def test_methods_with_double_underscores(self):
+        for name, _, tree in trees():
+            for node in ast.walk(tree):
+                if isinstance(node, ast.FunctionDef) and node.name.startswith("__"):
+                    self.assertIn(node.name, ("__init__", "__len__", "__contains__", "__eq__"), name)
+
+    def test_only_own_errors_are_caught(self):
+        for name, _, tree in trees():
+            own = [alias.name for node in tree.body if isinstance(node, ast.ImportFrom)
+                   and node.module == "lastpasted.errors" for alias in node.names]
+            for node in ast.walk(tree):
+                if isinstance(node, ast.ExceptHandler):
+                    self.assertIn(node.type.id, own, f"{name}:{node.lineno}")
+
+    def test_inner_comprehensions_have_names_of_their_own(self):
+        comprehensions = (ast.ListComp, ast.SetComp, ast.DictComp)
+        for name, _, tree in trees():
+            for node in ast.walk(tree):
+                if isinstance(node, comprehensions):
+                    outer = self.targets(node)
+                    for inner in ast.walk(node):
+                        if isinstance(inner, comprehensions) and inner is not node:
+                            self.assertFalse(outer & self.targets(inner), f"{name}:{inner.lineno}")
+
+    def targets(self, node):
+        return {word for part in node.generators for word in bound_in(part.target)} - {"_"}
 
 
 class Names(unittest.TestCase):

@@ -81,9 +81,11 @@ def case_said(text):
         return 1
     photos, known = int(lines[1]), {bill[0]: bill for bill in fence}
     told = told_said(lines[2]) if len(lines) > 2 else None
-    if told is None or not all(photo < photos and (seen == "-" or seen in known and known[seen][1] <= cell <= known[seen][2])
-                               for photo, cell, seen in told):
+    if told is None:
         return 2
+    for photo, cell, seen in told:
+        if photo >= photos or seen != "-" and not (seen in known and known[seen][1] <= cell <= known[seen][2]):
+            return 2
     facts = facts_said(lines[3]) if len(lines) > 3 else None
     if facts is None or not all(other in known and (one in known if word == "before" else one < photos)
                                 for word, one, other in facts):
